@@ -1,0 +1,1 @@
+"""Boats to the shore: boats go to and fro between a ship and the shore."""
