@@ -49,6 +49,9 @@ class State:
     def waiting(self):
         return sum([persons for ticket, persons in self.groups])
 
+    def in_boats(self):
+        return sum([boat.inside for boat in self.boats])
+
     def free_on_ship(self):
         return self.on_ship - self.waiting()
 

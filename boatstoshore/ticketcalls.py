@@ -2,7 +2,7 @@
 
 from boatstoshore.boatcalls import move_in
 from boatstoshore.limits import MOST_GROUPS, MOST_IN_GROUP, MOST_TICKETS
-from boatstoshore.refusals import NO_MORE, NO_SEATS, NOBODY, NONE_THERE, NOT_AS_IT_LIES, TOO_FEW, WRONG
+from boatstoshore.refusals import NO_MORE, NO_ONE, NO_SEATS, NONE_THERE, NOT_AS_IT_LIES, TOO_FEW, WRONG
 
 
 def bs_ticket(state, n):
@@ -25,7 +25,7 @@ def bs_call(state, b):
     if boat.is_on_its_way() or boat.to_shore:
         return [NOT_AS_IT_LIES]
     if len(state.groups) == 0:
-        return [NOBODY]
+        return [NO_ONE]
     called = groups_that_fit(state.groups, boat.seats_left())
     if called == 0:
         return [NO_SEATS]
@@ -41,6 +41,29 @@ def bs_drop(state, k):
         return [NONE_THERE]
     state.groups = [group for group in state.groups if group[0] != k]
     return [dropped[0]]
+
+
+def bs_place(state, k):
+    tickets = [ticket for ticket, persons in state.groups]
+    if k not in tickets:
+        return [NONE_THERE]
+    before = tickets.index(k)
+    return [before, state.groups[before][1], persons_of_first(state.groups, before)]
+
+
+def bs_first(state):
+    if len(state.groups) == 0:
+        return [NO_ONE]
+    first = state.groups[0]
+    return [first[0], first[1]]
+
+
+def bs_fits(state, b):
+    if not state.has_boat(b):
+        return [NONE_THERE]
+    left = state.boats[b].seats_left()
+    called = groups_that_fit(state.groups, left)
+    return [called, persons_of_first(state.groups, called), left]
 
 
 def groups_that_fit(groups, seats):

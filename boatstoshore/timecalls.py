@@ -2,6 +2,7 @@
 
 from boatstoshore.limits import LAST_MINUTE, MOST_MINUTES_AT_ONCE, MOST_SWELL
 from boatstoshore.refusals import TOO_LATE, WRONG
+from boatstoshore.telling import as_bits
 
 
 def bs_minutes(state, n):
@@ -12,7 +13,8 @@ def bs_minutes(state, n):
     state.minute += n
     for boat in state.boats:
         boat.minutes_left = max(0, boat.minutes_left - n)
-    return [state.minute, lying_bits(state)]
+    lying = [b for b, boat in enumerate(state.boats) if not boat.is_on_its_way()]
+    return [state.minute, as_bits(lying)]
 
 
 def bs_swell(state, v):
@@ -30,8 +32,3 @@ def bs_sail(state, t):
     was = state.sail
     state.sail = t
     return [was]
-
-
-def lying_bits(state):
-    """The boats that lie at the ship or the shore, as bits."""
-    return sum([1 << b for b, boat in enumerate(state.boats) if not boat.is_on_its_way()])

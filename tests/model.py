@@ -1,16 +1,24 @@
-"""A second reading of the document, for comparing: each person is kept by name, each minute is gone through."""
+"""A second reading of the document, for comparing: each person is kept by name, each minute is gone through.
+
+What is taken back is made anew, call by call, from how all was ahead of the last 30 changes.
+"""
+
+import copy
+
+from tests.lines import CHANGES
 
 
 class Model:
     def __init__(self):
-        self.place = {}
+        self.spot = {}
 
     def start(self, persons, sail):
         if persons not in range(1, 5001) or sail not in range(1, 100001):
             return [-22]
-        self.place = {person: "ship" for person in range(persons)}
+        self.spot = {person: "ship" for person in range(persons)}
         self.tickets = {}
         self.given = 0
+        self.gone = 0
         self.boats = []
         self.now = 0
         self.sails = sail
@@ -18,7 +26,7 @@ class Model:
         return [0]
 
     def at(self, place):
-        return [person for person, where in self.place.items() if where == place]
+        return [person for person, where in self.spot.items() if where == place]
 
     def holders(self):
         return {person for group in self.tickets.values() for person in group}
@@ -49,7 +57,7 @@ class Model:
         if len(self.at(b)) + n > boat["seats"]:
             return [-62]
         for person in beside[:n]:
-            self.place[person] = b
+            self.spot[person] = b
         return [len(self.at(b))]
 
     def out(self, b, n):
@@ -64,7 +72,7 @@ class Model:
         if n > len(inside):
             return [-12]
         for person in inside[:n]:
-            self.place[person] = boat["to"]
+            self.spot[person] = boat["to"]
         return [len(self.at(b))]
 
     def go(self, b):
@@ -76,6 +84,7 @@ class Model:
         if self.sea > boat["sea"]:
             return [-13]
         turn(boat)
+        self.gone += 1
         return [self.now + boat["way"]]
 
     def minutes(self, n):
@@ -121,6 +130,15 @@ class Model:
             return [-16]
         if not self.tickets:
             return [-6]
+        called = self.called(b)
+        if not called:
+            return [-62]
+        persons = [person for ticket in called for person in self.tickets.pop(ticket)]
+        for person in persons:
+            self.spot[person] = b
+        return [len(called), len(persons)]
+
+    def called(self, b):
         left = self.boats[b]["seats"] - len(self.at(b))
         called = []
         for ticket, group in self.tickets.items():
@@ -128,12 +146,7 @@ class Model:
             if left < 0:
                 break
             called.append(ticket)
-        if not called:
-            return [-62]
-        persons = [person for ticket in called for person in self.tickets.pop(ticket)]
-        for person in persons:
-            self.place[person] = b
-        return [len(called), len(persons)]
+        return called
 
     def drop(self, k):
         if k not in self.tickets:
@@ -188,17 +201,129 @@ class Model:
             if minute == t:
                 return [brought]
 
+    def fewest(self, n):
+        if n > 5000:
+            return [-22]
+        seats = [boat["seats"] for boat in self.boats if self.sea <= boat["sea"]]
+        if not seats:
+            return [-33]
+        ways = 0
+        while n > 0:
+            n -= sorted(seats)[-1]
+            ways += 1
+        return [ways]
+
+    def next(self):
+        for minutes in range(1, 61):
+            for b, boat in enumerate(self.boats):
+                if boat["left"] == minutes:
+                    return [b, minutes, ["ship", "shore"].index(boat["to"])]
+        return [-6]
+
+    def where(self, b):
+        if b >= len(self.boats):
+            return [-2]
+        boat = self.boats[b]
+        may = 0 if boat["sea"] < self.sea else 1
+        return [["ship", "shore"].index(boat["to"]), boat["left"], len(self.at(b)), may]
+
+    def look(self, b):
+        if b >= len(self.boats):
+            return [-2]
+        return [self.boats[b]["seats"], self.boats[b]["way"], self.boats[b]["sea"]]
+
+    def place(self, k):
+        groups = persons = 0
+        for ticket, group in self.tickets.items():
+            if ticket == k:
+                return [groups, len(group), persons]
+            groups += 1
+            persons += len(group)
+        return [-2]
+
+    def first(self):
+        for ticket, group in self.tickets.items():
+            return [ticket, len(group)]
+        return [-6]
+
+    def fits(self, b):
+        if b >= len(self.boats):
+            return [-2]
+        called = self.called(b)
+        persons = sum(len(self.tickets[ticket]) for ticket in called)
+        return [len(called), persons, self.boats[b]["seats"] - len(self.at(b))]
+
+    def in_boats(self):
+        return len(self.spot) - len(self.at("ship")) - len(self.at("shore"))
+
+    def all(self):
+        on_ship = len(self.at("ship"))
+        return [1 if on_ship == len(self.spot) else 0, on_ship, self.in_boats(), len(self.at("shore"))]
+
+    def may(self):
+        able = [2 ** b for b, boat in enumerate(self.boats) if self.sea <= boat["sea"]]
+        return [len(able), sum(able), self.sea]
+
+    def sums(self):
+        sums = [len(self.at("ship")), self.in_boats(), len(self.at("shore")), self.gone, self.given]
+        return sums + [len(self.holders())]
+
 
 def turn(boat):
     boat["to"] = "ship" if boat["to"] == "shore" else "shore"
     boat["left"] = boat["way"]
 
 
+def play(model, call):
+    words = call.split()
+    return getattr(model, words[0])(*[int(word) for word in words[1:]])
+
+
+class Record:
+    """A model, how it was ahead of the last 30 changes, these changes, and those that were taken back."""
+
+    def __init__(self):
+        self.model = self.base = Model()
+        self.made = []
+        self.undone = []
+
+    def answer(self, call):
+        name = call.split()[0]
+        if name in ("back", "again", "state"):
+            return getattr(self, name)()
+        told = play(self.model, call)
+        if told[0] >= 0 and name == "start":
+            self.base, self.made, self.undone = copy.deepcopy(self.model), [], []
+        if told[0] >= 0 and name in CHANGES:
+            self.made.append(call)
+            self.undone = []
+            if len(self.made) > 30:
+                play(self.base, self.made.pop(0))
+        return told
+
+    def back(self):
+        if not self.made:
+            return [-2]
+        self.undone.append(self.made.pop())
+        self.model = copy.deepcopy(self.base)
+        for call in self.made:
+            play(self.model, call)
+        return [len(self.made)]
+
+    def again(self):
+        if not self.undone:
+            return [-2]
+        self.made.append(self.undone.pop())
+        play(self.model, self.made[-1])
+        return [len(self.undone)]
+
+    def state(self):
+        model = self.model
+        return [model.now, len(model.boats), len(model.tickets), model.sails, len(self.made), len(self.undone)]
+
+
 def replay(line):
     """The model behind a line, and what it answered."""
-    model = Model()
-    told = []
-    for call in line:
-        words = call.split()
-        told.append(getattr(model, words[0])(*[int(word) for word in words[1:]]))
-    return model, told
+    record = Record()
+    told = [record.answer(call) for call in line]
+    return record.model, told

@@ -3,17 +3,12 @@
 import unittest
 
 from boatstoshore.ship import Ship
-from tests.lines import numbers_of
+from tests.lines import do, questions
 
 LINE = [
     "start 300 900", "boat 50 5 3", "into 0 33", "out 0 3", "go 0", "minutes 5", "swell 3", "ticket 7", "boat 20 1 5",
     "call 1", "ticket 9", "drop 1", "sail 800",
 ]
-
-
-def do(ship, call):
-    numbers = numbers_of([call])
-    return ship.answer(numbers[0], numbers[1:])
 
 
 def begun(persons=300, sail=900):
@@ -27,14 +22,6 @@ def picture(state):
     seen["boats"] = [dict(vars(boat)) for boat in state.boats]
     seen["groups"] = list(state.groups)
     return seen
-
-
-def take_back(ship):
-    ship.state = ship.changes.take_back(ship.state)
-
-
-def do_again(ship):
-    ship.state = ship.changes.do_again(ship.state)
 
 
 class Kept(unittest.TestCase):
@@ -52,7 +39,7 @@ class Kept(unittest.TestCase):
 
     def test_asking_is_no_change(self):
         ship = begun()
-        for call in ("boat 5 5 5", "home", "slack", "brought 9"):
+        for call in ["boat 5 5 5"] + questions() + ["state"]:
             do(ship, call)
         self.assertEqual(len(ship.changes.before), 1)
 
@@ -60,7 +47,7 @@ class Kept(unittest.TestCase):
         ship = begun()
         for call in ("boat 5 5 5", "into 0 3", "swell 9"):
             do(ship, call)
-        take_back(ship)
+        do(ship, "back")
         refused = (
             "boat 0 1 1", "into 0 0", "out 0 9", "go 1", "minutes 0", "swell 10", "ticket 0", "call 0", "drop 0",
             "sail 100001", "start 0 0",
@@ -73,7 +60,7 @@ class Kept(unittest.TestCase):
         ship = begun()
         for call in ("boat 5 5 5", "into 0 3", "swell 9"):
             do(ship, call)
-        take_back(ship)
+        do(ship, "back")
         do(ship, "start 5 5")
         self.assertEqual((ship.changes.before, ship.changes.undone), ([], []))
 
@@ -85,7 +72,7 @@ class Kept(unittest.TestCase):
             do(ship, f"sail {sail}")
             self.assertEqual(len(ship.changes.before), min(30, len(pictures)))
         for due in reversed(pictures[10:]):
-            take_back(ship)
+            do(ship, "back")
             self.assertEqual(picture(ship.state), due)
         self.assertEqual(len(ship.changes.before), 0)
         self.assertEqual(len(ship.changes.undone), 30)
@@ -99,10 +86,10 @@ class TakenBack(unittest.TestCase):
             do(ship, call)
             pictures.append(picture(ship.state))
         for due in reversed(pictures[:-1]):
-            take_back(ship)
+            do(ship, "back")
             self.assertEqual(picture(ship.state), due)
         for due in pictures[1:]:
-            do_again(ship)
+            do(ship, "again")
             self.assertEqual(picture(ship.state), due)
         self.assertEqual((len(ship.changes.before), len(ship.changes.undone)), (len(LINE) - 1, 0))
 
@@ -110,12 +97,12 @@ class TakenBack(unittest.TestCase):
         ship = begun()
         for call in ("swell 1", "swell 2", "swell 3"):
             do(ship, call)
-        take_back(ship)
-        take_back(ship)
+        do(ship, "back")
+        do(ship, "back")
         self.assertEqual(do(ship, "swell 7"), [1])
         self.assertEqual((len(ship.changes.before), len(ship.changes.undone)), (2, 0))
-        take_back(ship)
-        take_back(ship)
+        do(ship, "back")
+        do(ship, "back")
         self.assertEqual(do(ship, "swell 7"), [0])
 
     def test_what_was_taken_back_is_not_changed_by_later_calls(self):

@@ -1,4 +1,6 @@
-"""Promise 5: bs_home, bs_slack, bs_brought."""
+"""Promise 5: bs_home, bs_slack, bs_brought, bs_fewest."""
+
+import itertools
 
 from tests.lines import GREATEST, LineCase, answered, trip
 
@@ -191,3 +193,55 @@ class Brought(LineCase):
         line = ["start 90 999", "boat 5 4 4"] + trip(0, 5, 4)
         told = answered(line + ["home", "slack", "brought 50", "home", "slack", "brought 50"])
         self.assertEqual(told[-3:], told[-6:-3])
+
+
+class Fewest(LineCase):
+    def test_one_boat(self):
+        line = ["start 90 999", "boat 5 2 4"]
+        for n, ways in ((0, 0), (1, 1), (4, 1), (5, 1), (6, 2), (10, 2), (11, 3), (4999, 1000), (5000, 1000)):
+            self.check_last(line + [f"fewest {n}"], [ways])
+
+    def test_more_than_there_are(self):
+        self.check_last(["start 1 999", "boat 1 2 4", "fewest 5000"], [5000])
+
+    def test_the_most_seats(self):
+        for boats in (["7", "200", "30", "199"], ["200"], ["1", "200"], ["200", "1"]):
+            line = ["start 90 999"] + [f"boat {seats} 60 4" for seats in boats]
+            for n, ways in ((200, 1), (201, 2), (5000, 25), (4801, 25), (4800, 24)):
+                self.check_last(line + [f"fewest {n}"], [ways])
+
+    def test_only_boats_that_may_go(self):
+        line = ["start 90 999", "boat 7 2 1", "boat 50 2 4", "boat 9 2 6"]
+        for swell, ways in ((0, 2), (4, 2), (5, 12), (6, 12)):
+            self.check_last(line + [f"swell {swell}", "fewest 100"], [ways])
+        self.check_refused(line + ["swell 7"], "fewest 100", -33)
+        self.check_last(line + ["swell 7", "swell 6", "fewest 100"], [12])
+
+    def test_wherever_the_boats_are(self):
+        line = ["start 90 999", "boat 7 2 1", "into 0 5"]
+        for more in ([], ["go 0"], ["go 0", "minutes 2"], ["go 0", "minutes 2", "go 0"]):
+            self.check_last(line + more + ["fewest 15"], [3])
+
+    def test_by_whatever_boats(self):
+        """Ways are given to the boats in all ways: fewer never do."""
+        for seats in ((3,), (3, 5), (2, 3, 7), (4, 4, 1, 6)):
+            line = ["start 90 999"] + [f"boat {number} 1 0" for number in seats]
+            for n in range(25):
+                ways = answered(line + [f"fewest {n}"])[-1][0]
+                self.assertTrue(can_bring_over(seats, ways, n), (seats, n))
+                self.assertFalse(ways > 0 and can_bring_over(seats, ways - 1, n), (seats, n))
+
+    def test_above_5000(self):
+        for n in (5001, 5002, GREATEST):
+            self.check_refused(["start 90 999", "boat 7 2 1"], f"fewest {n}", -22)
+            self.check_refused(["start 90 999"], f"fewest {n}", -22)
+            self.check_refused(["start 90 999", "boat 7 2 1", "swell 2"], f"fewest {n}", -22)
+
+    def test_no_boat_may_go(self):
+        for n in (0, 1, 4999, 5000):
+            self.check_refused(["start 90 999"], f"fewest {n}", -33)
+            self.check_refused(["start 90 999"] + ["boat 7 2 1"] * 4 + ["swell 2"], f"fewest {n}", -33)
+
+
+def can_bring_over(seats, ways, n):
+    return any(sum(chosen) >= n for chosen in itertools.combinations_with_replacement(seats, ways))
